@@ -1,0 +1,85 @@
+package tests
+
+import (
+	"math"
+	"math/rand"
+	"reflect"
+	"testing"
+)
+
+// farNumbers leave every bound of the document, some of them only for one who cuts a number to fewer bits.
+func farNumbers() []int64 {
+	return []int64{
+		math.MinInt64, math.MinInt64 + 1, math.MinInt64 + 65, -1 << 33, -1<<32 + 65, -1<<31 - 1, -65536 + 65, -256 + 65, -65,
+		1<<16 + 65, 1 << 31, 1<<32 + 1, 1<<32 + 65, 1 << 33, 1<<62 + 65, math.MaxInt64 - 1, math.MaxInt64,
+	}
+}
+
+// guarded hands out a slice with room behind it, so that a call that appends to its argument is found out.
+func guarded(data []byte) (part []byte, whole []byte) {
+	whole = make([]byte, 0, len(data)+16)
+	whole = append(whole, data...)
+	for range 16 {
+		whole = append(whole, 170)
+	}
+	return whole[:len(data):len(whole)], whole
+}
+
+// overwrite writes into all that a list can reach, the room behind its end too.
+func overwrite[T any](list []T, with T) {
+	list = list[:cap(list)]
+	for i := range list {
+		list[i] = with
+	}
+}
+
+// same holds two answers against each other; an empty list and nil are the same value.
+func same(a any, b any) bool {
+	return reflect.DeepEqual(emptied(a), emptied(b))
+}
+
+func emptied(a any) any {
+	v := reflect.New(reflect.TypeOf(a)).Elem()
+	v.Set(reflect.ValueOf(a))
+	if v.Kind() == reflect.Struct {
+		for i := range v.NumField() {
+			if f := v.Field(i); f.Kind() == reflect.Slice && f.Len() == 0 {
+				f.SetZero()
+			}
+		}
+	}
+	return v.Interface()
+}
+
+// want tells of an answer that is not the one that is asked for.
+func want(t *testing.T, call string, got any, asked any) {
+	t.Helper()
+	if !same(got, asked) {
+		t.Errorf("%s = %+v, asked for %+v", call, got, asked)
+	}
+}
+
+// piecesOfLines are what lines are made of: all kinds of bytes, whole, cut and wrong.
+func piecesOfLines() []string {
+	return []string{
+		"a", "~", " ", "abc", "\t", "\t", "\t\t", "\n", "\r", "\x00", "\x01", "\x1f", "\x7f", "\x1b[0m",
+		"\xc2\x80", "\xc3\xa4", "\xdf\xbf", "\xe0\xa0\x80", "\xe2\x82\xac", "\xed\x9f\xbf", "\xee\x80\x80", "\xef\xbf\xbf",
+		"\xc3", "\xe2\x82", "\xe2", "\x80", "\xbf", "\xc0\x80", "\xc1\xbf", "\xe0\x9f\xbf", "\xed\xa0\x80", "\xed\xbf\xbf",
+		"\xf0\x90\x80\x80", "\xf8", "\xff", "\xfe", "\xc3\t", "\xe2\x82\t", "\xe2\x7f", "\xc3\xc3\xa4",
+	}
+}
+
+// someLines are lines made of pieces, always the same ones, no longer than a line may be.
+func someLines(count int) [][]byte {
+	random := rand.New(rand.NewSource(414))
+	pieces := piecesOfLines()
+	lines := [][]byte{nil, {}}
+	for len(lines) < count {
+		var line []byte
+		for range random.Intn(40) {
+			line = append(line, pieces[random.Intn(len(pieces))]...)
+		}
+		lines = append(lines, line)
+	}
+	return lines
+}
