@@ -4,7 +4,10 @@ import (
 	"math"
 	"math/rand"
 	"reflect"
+	"strings"
 	"testing"
+
+	"loop.example/g00414/impl"
 )
 
 // farNumbers leave every bound of the document, some of them only for one who cuts a number to fewer bits.
@@ -41,14 +44,21 @@ func same(a any, b any) bool {
 func emptied(a any) any {
 	v := reflect.New(reflect.TypeOf(a)).Elem()
 	v.Set(reflect.ValueOf(a))
-	if v.Kind() == reflect.Struct {
-		for i := range v.NumField() {
-			if f := v.Field(i); f.Kind() == reflect.Slice && f.Len() == 0 {
-				f.SetZero()
-			}
-		}
-	}
+	emptyFields(v)
 	return v.Interface()
+}
+
+func emptyFields(v reflect.Value) {
+	if v.Kind() != reflect.Struct {
+		return
+	}
+	for i := range v.NumField() {
+		f := v.Field(i)
+		if f.Kind() == reflect.Slice && f.Len() == 0 {
+			f.SetZero()
+		}
+		emptyFields(f)
+	}
 }
 
 // want tells of an answer that is not the one that is asked for.
@@ -82,4 +92,46 @@ func someLines(count int) [][]byte {
 		lines = append(lines, line)
 	}
 	return lines
+}
+
+// edgeFiles are those at which lines and parts are easily told wrong.
+func edgeFiles() []string {
+	return []string{
+		"", "\n", "\n\n", "\n\n\n", "a", "a\n", "a\n\n", "\na", "\n\na", "\na\n", "a\nb", "a\nb\n", "a\n\nb", "ab\n\nc", "ab\n\nc\n",
+		"\r\n", "a\r\nb\r", "\x00\n\x00", "\xff\n\xe2\x82\n\xac", "\x0b\n\x85\u2028\n", "\x8a\n\x0a\x1a",
+		strings.Repeat("x", 399), strings.Repeat("x", 400), strings.Repeat("\n", 399), strings.Repeat("\n", 400),
+		strings.Repeat("x", 399) + "\n", "\n" + strings.Repeat("x", 399), strings.Repeat("x\n", 200), strings.Repeat("\nx", 200),
+		strings.Repeat("x", 198) + "\n\n" + strings.Repeat("y", 200),
+	}
+}
+
+// someFiles are files with many lines or few, always the same ones, of all sizes that a file may have.
+func someFiles(count int) []string {
+	random := rand.New(rand.NewSource(1414))
+	files := edgeFiles()
+	for len(files) < count {
+		feeds := 1 + random.Intn(40)
+		file := make([]byte, random.Intn(401))
+		for i := range file {
+			file[i] = byte(random.Intn(256))
+			if random.Intn(feeds) == 0 {
+				file[i] = '\n'
+			}
+		}
+		files = append(files, string(file))
+	}
+	return files
+}
+
+// shortFiles are all of up to so many bytes that are made of a letter and line feeds.
+func shortFiles(most int) []string {
+	files := []string{""}
+	for from := 0; len(files[from]) < most; from++ {
+		files = append(files, files[from]+"a", files[from]+"\n")
+	}
+	return files
+}
+
+func fileOf(text string) impl.File {
+	return impl.File{Bytes: []byte(text)}
 }
