@@ -36,29 +36,28 @@ func overwrite[T any](list []T, with T) {
 	}
 }
 
-// same holds two answers against each other; an empty list and nil are the same value.
+// same holds two answers against each other; an empty list and nil are the same value, however deep they stand.
 func same(a any, b any) bool {
-	return reflect.DeepEqual(emptied(a), emptied(b))
+	return reflect.DeepEqual(emptied(reflect.ValueOf(a)).Interface(), emptied(reflect.ValueOf(b)).Interface())
 }
 
-func emptied(a any) any {
-	v := reflect.New(reflect.TypeOf(a)).Elem()
-	v.Set(reflect.ValueOf(a))
-	emptyFields(v)
-	return v.Interface()
-}
-
-func emptyFields(v reflect.Value) {
-	if v.Kind() != reflect.Struct {
-		return
-	}
-	for i := range v.NumField() {
-		f := v.Field(i)
-		if f.Kind() == reflect.Slice && f.Len() == 0 {
-			f.SetZero()
+// emptied is a value with nil for its empty lists; the value itself stays as it is.
+func emptied(v reflect.Value) reflect.Value {
+	fresh := reflect.New(v.Type()).Elem()
+	switch {
+	case v.Kind() == reflect.Struct:
+		for i := range v.NumField() {
+			fresh.Field(i).Set(emptied(v.Field(i)))
 		}
-		emptyFields(f)
+	case v.Kind() == reflect.Slice && v.Len() == 0:
+	case v.Kind() == reflect.Slice && v.Type().Elem().Kind() != reflect.Uint8:
+		for i := range v.Len() {
+			fresh = reflect.Append(fresh, emptied(v.Index(i)))
+		}
+	default:
+		fresh.Set(v)
 	}
+	return fresh
 }
 
 // want tells of an answer that is not the one that is asked for.
@@ -134,4 +133,13 @@ func shortFiles(most int) []string {
 
 func fileOf(text string) impl.File {
 	return impl.File{Bytes: []byte(text)}
+}
+
+// cacheOf makes a cache of blocks that are told as a number and a text, one behind the other.
+func cacheOf(unit int64, size int64, blocks ...any) impl.Cache {
+	c := impl.Cache{Unit: unit, Size: size}
+	for i := 0; i < len(blocks); i += 2 {
+		c.Blocks = append(c.Blocks, impl.Block{Number: int64(blocks[i].(int)), Bytes: []byte(blocks[i+1].(string))})
+	}
+	return c
 }
