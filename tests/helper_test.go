@@ -143,3 +143,32 @@ func cacheOf(unit int64, size int64, blocks ...any) impl.Cache {
 	}
 	return c
 }
+
+func indexOf(every int64, lines int64, size int64, marks ...int64) impl.Index {
+	return impl.Index{Every: every, Marks: marks, Lines: lines, Size: size}
+}
+
+// indexTold is what an index has to be of a text: marks are searched for one line feed after the other.
+func indexTold(every int64, text string) impl.Index {
+	x := indexOf(every, 0, int64(len(text)))
+	for place := range len(text) {
+		if text[place] == '\n' {
+			x.Lines++
+		}
+		if text[place] == '\n' && x.Lines%every == 0 {
+			x.Marks = append(x.Marks, int64(place)+1)
+		}
+	}
+	return x
+}
+
+// startsOf are the places at which the lines of a text begin.
+func startsOf(text string) []int64 {
+	var starts []int64
+	for place := range len(text) {
+		if place == 0 || text[place-1] == '\n' {
+			starts = append(starts, int64(place))
+		}
+	}
+	return starts
+}
