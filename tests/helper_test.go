@@ -172,3 +172,116 @@ func startsOf(text string) []int64 {
 	}
 	return starts
 }
+
+// nodeOf is a tree of one node that is of no other.
+func nodeOf(kind int64) []impl.Node {
+	return []impl.Node{{Kind: kind}}
+}
+
+func charOf(char int64) []impl.Node {
+	return []impl.Node{{Kind: impl.ReChar, Char: char}}
+}
+
+func setOf(kind int64, set string) []impl.Node {
+	return []impl.Node{{Kind: kind, Set: set}}
+}
+
+// treeOf is a tree of one or of two others; their places are moved to where they come to stand.
+func treeOf(kind int64, inner ...[]impl.Node) []impl.Node {
+	var nodes []impl.Node
+	whole := impl.Node{Kind: kind}
+	for _, tree := range inner {
+		by := int64(len(nodes))
+		for _, n := range tree {
+			if n.Kind >= impl.ReStar {
+				n.Left += by
+			}
+			if n.Kind >= impl.ReCat {
+				n.Right += by
+			}
+			nodes = append(nodes, n)
+		}
+		whole.Left, whole.Right = whole.Right, int64(len(nodes))-1
+	}
+	if len(inner) == 1 {
+		whole.Left, whole.Right = whole.Right, 0
+	}
+	return append(nodes, whole)
+}
+
+// catOf is a tree of several ones behind one another, taken from the left on.
+func catOf(first []impl.Node, more ...[]impl.Node) []impl.Node {
+	for _, tree := range more {
+		first = treeOf(impl.ReCat, first, tree)
+	}
+	return first
+}
+
+// leavesOfTrees are one of each kind that is of no other.
+func leavesOfTrees() [][]impl.Node {
+	return [][]impl.Node{
+		nodeOf(impl.ReEmpty), charOf('a'), nodeOf(impl.ReAny), setOf(impl.ReSet, "ab"), setOf(impl.ReNot, "\\]^a"), nodeOf(impl.ReBegin), nodeOf(impl.ReEnd),
+	}
+}
+
+// treesOf are all trees of so many nodes, by how many they have, of the leaves that are told.
+func treesOf(most int, leaves [][]impl.Node) [][][]impl.Node {
+	trees := make([][][]impl.Node, most+1)
+	trees[1] = leaves
+	for count := 2; count <= most; count++ {
+		for kind := int64(impl.ReStar); kind <= impl.ReOpt; kind++ {
+			for _, inner := range trees[count-1] {
+				trees[count] = append(trees[count], treeOf(kind, inner))
+			}
+		}
+		for left := 1; left < count-1; left++ {
+			for _, first := range trees[left] {
+				for _, second := range trees[count-1-left] {
+					trees[count] = append(trees[count], treeOf(impl.ReCat, first, second), treeOf(impl.ReAlt, first, second))
+				}
+			}
+		}
+	}
+	return trees
+}
+
+// randomLeaf is of any kind that is of no other, with any bytes that it may have.
+func randomLeaf(random *rand.Rand) []impl.Node {
+	switch kind := int64(1 + random.Intn(impl.ReEnd)); kind {
+	case impl.ReChar:
+		return charOf(int64(32 + random.Intn(95)))
+	case impl.ReSet, impl.ReNot:
+		set, size := make([]byte, 0, 20), 1+random.Intn(1+random.Intn(20))
+		for b := byte(32); b <= 126 && len(set) < size; b++ {
+			if random.Intn(int(127-b)) < size-len(set) {
+				set = append(set, b)
+			}
+		}
+		return setOf(kind, string(set))
+	default:
+		return nodeOf(kind)
+	}
+}
+
+// randomTree is a tree of just so many nodes.
+func randomTree(random *rand.Rand, count int) []impl.Node {
+	switch {
+	case count == 1:
+		return randomLeaf(random)
+	case count == 2 || random.Intn(3) == 0:
+		return treeOf(int64(impl.ReStar+random.Intn(3)), randomTree(random, count-1))
+	default:
+		left := 1 + random.Intn(count-2)
+		return treeOf(int64(impl.ReCat+random.Intn(2)), randomTree(random, left), randomTree(random, count-1-left))
+	}
+}
+
+// someTrees are trees of all sizes that a pattern may have, always the same ones.
+func someTrees(count int) [][]impl.Node {
+	random := rand.New(rand.NewSource(51414))
+	trees := make([][]impl.Node, count)
+	for i := range trees {
+		trees[i] = randomTree(random, 1+i%impl.MaxNodes)
+	}
+	return trees
+}
