@@ -4,6 +4,8 @@ import (
 	"math"
 	"math/rand"
 	"reflect"
+	"slices"
+	"strconv"
 	"strings"
 	"testing"
 
@@ -284,4 +286,114 @@ func someTrees(count int) [][]impl.Node {
 		trees[i] = randomTree(random, 1+i%impl.MaxNodes)
 	}
 	return trees
+}
+
+// roomy hands out a list with room behind it, so that a call that appends to its argument is found out.
+func roomy[T any](list []T, mark T) (part []T, whole []T) {
+	whole = append(slices.Clone(list), slices.Repeat([]T{mark}, 8)...)
+	return whole[:len(list):len(whole)], whole
+}
+
+// rising is a list of all numbers from the one to ahead of the other.
+func rising(from int64, behind int64) []int64 {
+	var list []int64
+	for ; from < behind; from++ {
+		list = append(list, from)
+	}
+	return list
+}
+
+func byteInst(node impl.Node, x int64) impl.Inst {
+	return impl.Inst{Op: impl.OpByte, Node: node, X: x}
+}
+
+// placesOf reads numbers with a comma between.
+func placesOf(text string) []int64 {
+	var list []int64
+	for _, digits := range strings.FieldsFunc(text, func(r rune) bool { return r == ',' }) {
+		place, err := strconv.ParseInt(digits, 10, 64)
+		if err != nil {
+			panic(err)
+		}
+		list = append(list, place)
+	}
+	return list
+}
+
+// instOf reads an instruction: s1,3 and j1, b1, e1 (a beginning, an end), done, and a>1 with the text of a node.
+func instOf(text string) impl.Inst {
+	if text == "done" {
+		return impl.Inst{Op: impl.OpDone}
+	}
+	if at := strings.LastIndex(text, ">"); at > 0 {
+		return byteInst(impl.ParsePattern(text[:at]).Nodes[0], placesOf(text[at+1:])[0])
+	}
+	in := impl.Inst{Op: map[byte]int64{'s': impl.OpSplit, 'j': impl.OpJump, 'b': impl.OpBegin, 'e': impl.OpEnd}[text[0]]}
+	to := placesOf(text[1:])
+	if in.X = to[0]; len(to) > 1 {
+		in.Y = to[1]
+	}
+	return in
+}
+
+// progOf reads instructions with blanks between.
+func progOf(text string) []impl.Inst {
+	var prog []impl.Inst
+	for _, word := range strings.Fields(text) {
+		prog = append(prog, instOf(word))
+	}
+	return prog
+}
+
+// compiled is the program of a pattern that is told as a text.
+func compiled(pattern string) []impl.Inst {
+	return impl.CompilePattern(impl.ParsePattern(pattern).Nodes).Prog
+}
+
+// randomProg is a program of just so many instructions, of any that there may be; few of them are at the end.
+func randomProg(random *rand.Rand, count int) []impl.Inst {
+	prog := make([]impl.Inst, count)
+	place := func() int64 { return int64(random.Intn(count)) }
+	for i := range prog {
+		switch op := int64(1 + random.Intn(impl.OpDone)); {
+		case op == impl.OpDone && random.Intn(count) < 3:
+			prog[i] = impl.Inst{Op: op}
+		case op == impl.OpSplit:
+			prog[i] = impl.Inst{Op: op, X: place(), Y: place()}
+		case op == impl.OpByte || op == impl.OpDone:
+			leaf := randomLeaf(random)[0]
+			for leaf.Kind < impl.ReChar || leaf.Kind > impl.ReNot {
+				leaf = randomLeaf(random)[0]
+			}
+			if random.Intn(2) == 0 {
+				leaf = charOf('a' + int64(random.Intn(3)))[0]
+			}
+			prog[i] = byteInst(leaf, place())
+		default:
+			prog[i] = impl.Inst{Op: op, X: place()}
+		}
+	}
+	return prog
+}
+
+// somePrograms are programs of all sizes that there may be, always the same ones.
+func somePrograms(count int) [][]impl.Inst {
+	random := rand.New(rand.NewSource(81414))
+	progs := make([][]impl.Inst, count)
+	for i := range progs {
+		progs[i] = randomProg(random, 1+i%impl.MaxProg)
+	}
+	return progs
+}
+
+// randomSet has some places of so many, few of them or most of them.
+func randomSet(random *rand.Rand, count int) []int64 {
+	var set []int64
+	part := 1 + random.Intn(20)
+	for place := range int64(count) {
+		if random.Intn(20) < part {
+			set = append(set, place)
+		}
+	}
+	return set
 }
