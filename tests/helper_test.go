@@ -397,3 +397,76 @@ func randomSet(random *rand.Rand, count int) []int64 {
 	}
 	return set
 }
+
+// stateOf reads a state: the places of its set, or - for none, and behind a blank each an arc, its byte and where it leads.
+func stateOf(text string) impl.SetState {
+	words := strings.Split(text, " ")
+	var state impl.SetState
+	if words[0] != "-" {
+		state.Set = placesOf(words[0])
+	}
+	for _, word := range words[1:] {
+		state.Arcs = append(state.Arcs, impl.Arc{Byte: int64(word[0]), To: placesOf(word[1:])[0]})
+	}
+	return state
+}
+
+// tableOf reads states with | between.
+func tableOf(size int64, text string) impl.Table {
+	t := impl.Table{Size: size}
+	for _, state := range strings.Split(text, " | ") {
+		if text != "" {
+			t.States = append(t.States, stateOf(state))
+		}
+	}
+	return t
+}
+
+// withState is a table with a state more, behind all others.
+func withState(t impl.Table, state impl.SetState) impl.Table {
+	t.States = append(slices.Clone(t.States), state)
+	return t
+}
+
+// arcsOf are arcs for so many bytes, from 0 on, that lead to one place.
+func arcsOf(count int, to int64) []impl.Arc {
+	arcs := make([]impl.Arc, count)
+	for b := range arcs {
+		arcs[b] = impl.Arc{Byte: int64(b), To: to}
+	}
+	return arcs
+}
+
+// randomTable has any sets, no two alike, and arcs that lead anywhere; it has no fault.
+func randomTable(random *rand.Rand, prog []impl.Inst) impl.Table {
+	t := impl.Table{Size: int64(1 + random.Intn(impl.MaxStates))}
+	for range random.Intn(int(t.Size) + 1) {
+		set := randomSet(random, len(prog))
+		if random.Intn(3) == 0 {
+			set = impl.CloseSet(prog, []int64{0}, random.Intn(2) == 0, false).List
+		}
+		if !slices.ContainsFunc(t.States, func(state impl.SetState) bool { return slices.Equal(state.Set, set) }) {
+			t.States = append(t.States, impl.SetState{Set: set})
+		}
+	}
+	for place := range t.States {
+		for _, b := range random.Perm(256)[:random.Intn(4)*random.Intn(86)] {
+			t.States[place].Arcs = append(t.States[place].Arcs, impl.Arc{Byte: int64(b), To: int64(random.Intn(len(t.States)))})
+		}
+	}
+	return t
+}
+
+// trueTable is one to which sets were entered and from which steps were gone.
+func trueTable(random *rand.Rand, prog []impl.Inst, size int64) impl.Table {
+	t := impl.NewTable(size).Table
+	for range random.Intn(20) {
+		if len(t.States) == 0 || random.Intn(4) == 0 {
+			t = impl.EnterSet(prog, t, randomSet(random, len(prog))).Table
+			continue
+		}
+		b := "abc \n\xff"[random.Intn(6)]
+		t = impl.StepTable(prog, t, int64(random.Intn(len(t.States))), b).Table
+	}
+	return t
+}
