@@ -470,3 +470,29 @@ func trueTable(random *rand.Rand, prog []impl.Inst, size int64) impl.Table {
 	}
 	return t
 }
+
+// kindOf is the kind of a command by its name.
+func kindOf(name string) int64 {
+	return map[string]int64{
+		"down": impl.CmdDown, "up": impl.CmdUp, "top": impl.CmdTop, "end": impl.CmdEnd, "chop": impl.CmdChop, "left": impl.CmdLeft, "right": impl.CmdRight,
+		"find": impl.CmdFind, "next": impl.CmdNext, "prev": impl.CmdPrev, "size": impl.CmdSize, "mark": impl.CmdMark, "go": impl.CmdGo, "follow": impl.CmdFollow,
+	}[name]
+}
+
+// cmdOf reads a command: its name, and behind a blank each its Count and its Wide, or all of its Text.
+func cmdOf(text string) impl.Cmd {
+	name, rest, _ := strings.Cut(text, " ")
+	c := impl.Cmd{Kind: kindOf(name)}
+	if name == "find" {
+		c.Text = rest
+		return c
+	}
+	numbers := append(placesOf(strings.ReplaceAll(rest, " ", ",")), 0, 0)
+	c.Count, c.Wide = numbers[0], numbers[1]
+	return c
+}
+
+// lookAt is a state at line 0, row 0, with all else empty.
+func lookAt(height int64, width int64) impl.State {
+	return impl.State{Height: height, Layout: impl.Layout{Width: width}, Marks: make([]impl.Spot, impl.MaxMarks)}
+}
